@@ -46,6 +46,13 @@ type TextResult struct {
 	Text string
 }
 
+func truthOf(so bool) IntResult {
+	if so {
+		return IntResult{Value: 1}
+	}
+	return IntResult{}
+}
+
 func SumOf(data []byte) IntResult {
 	if len(data) > MaxBytes {
 		return IntResult{Code: ErrMany}
